@@ -1,0 +1,1 @@
+"""Letterfolds: finite monoids, their classes, and the languages that they tell."""

@@ -1,0 +1,37 @@
+"""What arguments are asked by several modules: numbers, sequences, words, numbers in texts."""
+
+LETTERS = "abcdef"
+MOST_DIGITS = 30
+# The greatest count of a power, of an element as of a number of one.
+MOST_COUNT = 10 ** 30
+
+
+def is_number(thing):
+    """Whether it is an integer; True and False are none."""
+    return isinstance(thing, int) and not isinstance(thing, bool)
+
+
+def is_between(thing, least, most):
+    """Whether it is an integer from least to most."""
+    return is_number(thing) and least <= thing <= most
+
+
+def is_sequence(thing, least, most):
+    """Whether it is a list or a tuple with least to most entries."""
+    return isinstance(thing, (list, tuple)) and least <= len(thing) <= most
+
+
+def is_word(thing, letters, most):
+    """Whether it is a word of the first so many letters, of at most so many."""
+    if not isinstance(thing, str) or len(thing) > most:
+        return False
+    known = LETTERS[:letters]
+    return all([letter in known for letter in thing])
+
+
+def is_numeral(word):
+    """Whether a text is a number as texts tell it: 1 to 30 digits, without leading zeros."""
+    # isdigit alone would also take digits of other scripts.
+    if not (word.isascii() and word.isdigit()) or len(word) > MOST_DIGITS:
+        return False
+    return word == "0" or not word.startswith("0")

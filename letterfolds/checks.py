@@ -1,6 +1,8 @@
 """What arguments are asked by several modules: numbers, sequences, words, numbers in texts."""
 
 LETTERS = "abcdef"
+# All letters that stand for anything; of these the parts of the document take so many as they tell.
+SIGNS = "abcdefghijklmnopqrst"
 MOST_DIGITS = 30
 # The greatest count of a power, of an element as of a number of one.
 MOST_COUNT = 10 ** 30

@@ -1,6 +1,6 @@
 """Finite monoids told by right tables: words, products, ways, growth and rules."""
 
-from letterfolds.checks import LETTERS, MOST_COUNT, is_between, is_sequence, is_word
+from letterfolds.checks import LETTERS, MOST_COUNT, SIGNS, is_between, is_sequence, is_word
 from letterfolds.errors import NoMonoid, NoNumber, NoWord
 
 MOST_SIZE = 2000
@@ -67,13 +67,13 @@ class Monoid:
         """The least word w with one times w equal to other, or None."""
         self._check_number(one)
         self._check_number(other)
-        return _least_way(self.right, one, other, False)
+        return least_ways(self.right, one, False, other).get(other)
 
     def least_left(self, one, other):
         """The least word w with w times one equal to other, or None."""
         self._check_number(one)
         self._check_number(other)
-        return _least_way(self._left, one, other, True)
+        return least_ways(self._left, one, True, other).get(other)
 
     def opposite(self):
         """The Monoid with the same letters whose products are those here turned round."""
@@ -242,12 +242,15 @@ def _end(right, start, letters):
     return number
 
 
-def _least_way(table, one, other, is_front):
-    """The least word that leads from one to other, each new letter being put in front or behind, or None."""
+def least_ways(table, one, is_front, last=None):
+    """The dict of the least words that lead from one, each new letter being put in front or behind.
+
+    They come in their order; where a last number is told, its word is the last one that is surely there.
+    """
     words = {one: ""}
     level = [one]
     letters = list(range(len(table[0])))
-    while level and other not in words:
+    while level and last not in words:
         # So the words of the next level are met in their order: what stands in front is compared first.
         if is_front:
             steps = [(number, letter) for letter in letters for number in level]
@@ -257,18 +260,39 @@ def _least_way(table, one, other, is_front):
         for number, letter in steps:
             reached = table[number][letter]
             if reached not in words:
-                sign = LETTERS[letter]
+                sign = SIGNS[letter]
                 words[reached] = sign + words[number] if is_front else words[number] + sign
                 level.append(reached)
-    return words.get(other)
+    return words
+
+
+def products_from(monoid, number):
+    """The list of the products of an element, first, with each element."""
+    return _products_from(monoid.right, monoid._made, number)
+
+
+def products_onto(monoid, number):
+    """The list of the products of each element, first, with an element."""
+    left = monoid.left()
+    rests = _rests(monoid.right, monoid._made)
+    firsts = [0]
+    products = [number]
+    for rest, (before, letter) in zip(rests[1:], monoid._made[1:]):
+        firsts.append(letter if before == 0 else firsts[before])
+        products.append(left[products[rest]][firsts[-1]])
+    return products
+
+
+def _products_from(right, made, number):
+    products = [number]
+    for before, letter in made[1:]:
+        products.append(right[products[before]][letter])
+    return products
 
 
 def _powers(right, made, number):
     """The pair of the list of the powers of an element, each once, and of its index."""
-    # The row of the products of the element, first, with each element.
-    products = [number]
-    for before, letter in made[1:]:
-        products.append(right[products[before]][letter])
+    products = _products_from(right, made, number)
     powers = [0]
     places = {0: 0}
     while products[powers[-1]] not in places:

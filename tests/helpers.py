@@ -1,5 +1,9 @@
 """What several tests share: refusals, plain products, and monoids to ask."""
 
+import os
+import subprocess
+import sys
+import tempfile
 import unittest
 from itertools import product
 
@@ -38,6 +42,22 @@ class FoldCase(unittest.TestCase):
             wanted, found = getattr(error, field), getattr(told, field)
             self.assertEqual(found, wanted, (field, args, named))
             self.assertIs(type(found), type(wanted), (field, args, named))
+
+    def tells_the_same_everywhere(self, session):
+        """Runs a session with several hash seeds, in empty folders, and asks that it prints the same each time."""
+        results = []
+        root = os.path.dirname(os.path.dirname(os.path.abspath(__file__)))
+        for seed in ("0", "1", "20261119"):
+            with tempfile.TemporaryDirectory() as folder:
+                env = dict(os.environ, PYTHONHASHSEED=seed, PYTHONPATH=root, PYTHONDONTWRITEBYTECODE="1")
+                done = subprocess.run([sys.executable, "-c", session], cwd=folder, env=env,
+                                      capture_output=True, text=True)
+                self.assertEqual((done.returncode, done.stderr), (0, ""))
+                self.assertEqual(os.listdir(folder), [])
+                results.append(done.stdout)
+        self.assertGreater(len(results[0]), 1000)
+        self.assertEqual(results[0], results[1])
+        self.assertEqual(results[0], results[2])
 
 
 def plain_one(x):

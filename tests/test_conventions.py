@@ -1,10 +1,6 @@
 """What holds everywhere: nothing is changed, lists are new, results are the same every time."""
 
 import copy
-import os
-import subprocess
-import sys
-import tempfile
 import unittest
 from itertools import combinations
 
@@ -215,19 +211,7 @@ class AnswerTests(FoldCase):
         self.assertEqual(Listed([Map([0])]).generators, (Map([0]),))
 
     def test_same_results_in_other_processes_and_places(self):
-        results = []
-        root = os.path.dirname(os.path.dirname(os.path.abspath(__file__)))
-        for seed in ("0", "1", "20261119"):
-            with tempfile.TemporaryDirectory() as folder:
-                env = dict(os.environ, PYTHONHASHSEED=seed, PYTHONPATH=root, PYTHONDONTWRITEBYTECODE="1")
-                done = subprocess.run([sys.executable, "-c", SESSION], cwd=folder, env=env,
-                                      capture_output=True, text=True)
-                self.assertEqual((done.returncode, done.stderr), (0, ""))
-                self.assertEqual(os.listdir(folder), [])
-                results.append(done.stdout)
-        self.assertGreater(len(results[0]), 1000)
-        self.assertEqual(results[0], results[1])
-        self.assertEqual(results[0], results[2])
+        self.tells_the_same_everywhere(SESSION)
 
     def test_classes_of_what_is_returned(self):
         self.assertEqual(type(one_of(Map([0]))), Map)

@@ -1,11 +1,14 @@
-"""The examples of the document that use elements, monoids and listings alone."""
+"""The examples of the document, up to those of presentations."""
 
 import unittest
 
 from letterfolds.errors import NoMonoid
 from letterfolds.folds import Grid, Map, Part, Toll, cycle_of
+from letterfolds.great import Great
+from letterfolds.green import Green
 from letterfolds.listing import Listed
 from letterfolds.monoids import Monoid
+from letterfolds.presentations import Presented
 from helpers import FoldCase
 
 
@@ -22,6 +25,31 @@ class ExampleTests(FoldCase):
 
     def test_no_monoid(self):
         self.refuses(NoMonoid("product", 1), Monoid, [[1, 2], [0, 0], [1, 1]])
+
+    def test_classes_of_a_flip_and_a_constant(self):
+        green = Green(Listed([Map([1, 0]), Map([0, 0])]).monoid)
+        self.assertEqual((green.classes("R"), green.classes("L"), green.eggbox(1).cells, green.forms()),
+                         ([[0, 1], [2, 3]], [[0, 1], [2], [3]], (((2,), (3,)),), ["regular", "orthodox", "union"]))
+
+    def test_all_maps_of_four_points(self):
+        monoid = Great(4, [(1, 2, 3, 0), (1, 0, 2, 3), (1, 1, 2, 3)])
+        self.assertEqual((monoid.size(), monoid.counts(), monoid.by_rank()),
+                         (256, (15, 15, 71, 4), [(1, 4), (2, 84), (3, 144), (4, 24)]))
+
+    def test_least_word_to_rank_one(self):
+        self.assertEqual(Great(4, [(1, 2, 3, 0), (1, 1, 2, 3)]).least_to_rank(1), "baaabaaab")
+
+    def test_related_on_one_side(self):
+        monoid = Great(4, [(2, 3, None, None), (0, 1, 3, 2)])
+        self.assertEqual((monoid.boxes(), monoid.related("R", (2, 3, None, None), (3, 2, None, None)),
+                          monoid.related("L", (2, 3, None, None), (3, 2, None, None))),
+                         ([(0, 1, 1, 1, 1), (2, 1, 2, 1, 0), (4, 1, 1, 2, 1)], True, False))
+
+    def test_presented(self):
+        presented = Presented(2, [("ab", "")])
+        self.assertEqual((presented.rules(), presented.amount(5), presented.growth(),
+                          Presented(2, [("aa", ""), ("bbb", ""), ("abab", "")]).size()),
+                         ([("ab", "")], 6, ("polynomial", 2), 6))
 
 
 if __name__ == "__main__":

@@ -56,17 +56,16 @@ class Rows:
         self.full = [cluster.is_full() for cluster in self.clusters]
         self.places = {}
         # For each R-class the first element, its spot, and the letter and the R-class from which it was made.
-        self.wholes = []
+        self.starts = []
         self.spots = []
         self.made = []
         # For each R-class those to which letters in front lead.
         self.rows = []
         self._meet(tuple(range(images.points + 1)), None)
-        while len(self.rows) < len(self.wholes):
+        while len(self.rows) < len(self.starts):
             number = len(self.rows)
-            whole = self.wholes[number]
-            self.rows.append([self._meet(product_of(letter, whole), (place, number))
-                              for place, letter in enumerate(images.wholes)])
+            products = [product_of(whole, self.starts[number]) for whole in images.wholes]
+            self.rows.append([self._meet(product, (letter, number)) for letter, product in enumerate(products)])
         parts = Parts(self.rows)
         self.box_of = parts.part_of
         self.all_boxes = [self._box(rows) for rows in parts.members]
@@ -75,11 +74,11 @@ class Rows:
         """The number of the R-class of an element, which is new if it is not met before."""
         spot, key = self._spot_and_key(whole)
         if spot.row is None:
-            if len(self.wholes) == MOST_ROWS:
+            if len(self.starts) == MOST_ROWS:
                 raise TooMany(MOST_ROWS)
-            spot.row = len(self.wholes)
+            spot.row = len(self.starts)
             self.places[key] = spot.row
-            self.wholes.append(whole)
+            self.starts.append(whole)
             self.spots.append(spot)
             self.made.append(made)
         return spot.row
@@ -133,7 +132,7 @@ class Rows:
             for letter, end in enumerate(self.rows[row]):
                 if self.box_of[end] != self.box_of[row]:
                     continue
-                spot = self.spot(product_of(self.images.wholes[letter], self.wholes[row]))
+                spot = self.spot(product_of(self.images.wholes[letter], self.starts[row]))
                 turned = product_of(cluster.moving(self.spots[end].ends, spot.ends), turns[row])
                 if end in turns:
                     group.take_in(product_of(inverse(turns[end]), turned), None)
@@ -152,4 +151,5 @@ def _least_row(cluster, ends):
 
 
 def _count_bits(mask):
-    return f"{mask:b}".count("1")
+    digits = f"{mask:b}"
+    return digits.count("1")

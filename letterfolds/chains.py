@@ -14,7 +14,6 @@ class Chain:
 
     def __init__(self, points):
         one = tuple(range(points))
-        self.points = points
         self.recipes = []
         # For each level, and each point there, the way, its inverse and its label.
         self.reached = [{point: (one, one, None)} for point in one]

@@ -48,16 +48,17 @@ def count_lower_sets(below):
     """How many sets of parts, the empty one among them, have with each part all that is below it."""
     many = len(below)
     above = [sum([1 << other for other in range(many) if has_bit(below[other], part)]) for part in range(many)]
-    known = {0: 1}
+    return _count_within((1 << many) - 1, below, above, {0: 1})
 
-    def count(left):
-        if left not in known:
-            part = left.bit_length() - 1
-            # The sets with this part have all below it, those without it have nothing above it.
-            known[left] = count(left & ~below[part]) + count(left & ~above[part])
-        return known[left]
 
-    return count((1 << many) - 1)
+def _count_within(left, below, above, known):
+    """How many such sets there are among the parts that are left; what is known is kept by what is left."""
+    if left not in known:
+        part = left.bit_length() - 1
+        # The sets with this part have all below it, those without it have nothing above it.
+        with_it = _count_within(left & ~below[part], below, above, known)
+        known[left] = with_it + _count_within(left & ~above[part], below, above, known)
+    return known[left]
 
 
 def _strong_parts(rows):

@@ -70,15 +70,12 @@ class Green:
         self._parts = {"R": Parts(monoid.right), "L": Parts(left), "D": Parts(both)}
         self._members = {kind: self._parts[kind].members for kind in ORDERED}
         self._class_of = {kind: self._parts[kind].part_of for kind in ORDERED}
-        # The number of the cell in each pair of an R-class and an L-class.
-        self._cell_at = {}
-        self._members["H"] = []
-        self._class_of["H"] = []
-        for x, place in enumerate(zip(self._class_of["R"], self._class_of["L"])):
-            if place not in self._cell_at:
-                self._cell_at[place] = len(self._cell_at)
-                self._members["H"].append([])
-            self._class_of["H"].append(self._cell_at[place])
+        # For each pair of an R-class and an L-class that meet, their H-class.
+        places = list(zip(self._class_of["R"], self._class_of["L"]))
+        self._cell_at = _numbered_cells(places)
+        self._class_of["H"] = [self._cell_at[place] for place in places]
+        self._members["H"] = [[] for _ in self._cell_at]
+        for x, place in enumerate(places):
             self._members["H"][self._cell_at[place]].append(x)
         self._idempotents = [x for x in range(monoid.size()) if monoid.times(x, x) == x]
         self._one_of_cell = {self._class_of["H"][x]: x for x in self._idempotents}
@@ -294,6 +291,15 @@ class Green:
 def _check_kind(kind, kinds):
     if kind not in kinds:
         raise NoKind(kind)
+
+
+def _numbered_cells(places):
+    """For each place its number, in the order in which they come first."""
+    cells = {}
+    for place in places:
+        if place not in cells:
+            cells[place] = len(cells)
+    return cells
 
 
 def _distances_to(right, last):

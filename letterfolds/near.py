@@ -2,6 +2,8 @@
 
 from letterfolds.checks import SIGNS
 
+FIRST_STEPS = 10000
+
 
 def rules_of(letters, pairs, reach):
     """The list of the rules (left, right), lefts in their order, that words of at most reach letters tell."""
@@ -45,7 +47,8 @@ def _least_near(words, pairs):
             leasts[least] = least
             found = [least]
             while found:
-                for end in ends[found.pop()]:
+                word = found.pop()
+                for end in ends[word]:
                     if end not in leasts:
                         leasts[end] = least
                         found.append(end)
@@ -73,17 +76,21 @@ class Reducer:
     def __init__(self, letters, rules):
         self.pairs = rules
         beginnings = [left[:many] for left, _ in rules for many in range(len(left))]
+        # The empty word is the first state.
         self.states = sorted(set(beginnings + [""]))
         numbers = {state: number for number, state in enumerate(self.states)}
         numbers.update({left: -1 - rule for rule, (left, _) in enumerate(rules)})
         self.rows = [[_longest_end(state + sign, numbers) for sign in SIGNS[:letters]] for state in self.states]
 
-    def reduced(self, word):
-        """What is left of a word when rights are put out for lefts, always for the left that ends first."""
-        # The empty word is the first state.
+    def reduced(self, word, most=None):
+        """What is left of a word when rights are put out for lefts, always for the left that ends first.
+
+        None if this takes more than so many steps, where a number is told.
+        """
         path = [0]
         done = []
         waiting = list(word[::-1])
+        count = 0
         while waiting:
             sign = waiting.pop()
             state = self.rows[path[-1]][SIGNS.index(sign)]
@@ -91,6 +98,9 @@ class Reducer:
                 path.append(state)
                 done.append(sign)
                 continue
+            if count == most:
+                return None
+            count += 1
             left, right = self.pairs[-1 - state]
             # The letter at hand is the last one of the left.
             for _ in left[1:]:
@@ -98,6 +108,27 @@ class Reducer:
                 done.pop()
             waiting.extend(list(right[::-1]))
         return "".join(done)
+
+
+class Normals:
+    """Reduces words by rules of a finished presentation, for which it does not matter which left is taken."""
+
+    def __init__(self, letters, rules):
+        self.onward = Reducer(letters, rules)
+        self.backward = Reducer(letters, [(left[::-1], right[::-1]) for left, right in rules])
+
+    def normal_word(self, word):
+        """The least word equal to a word."""
+        # From one end it may take more steps than can be waited for, and from the other one few.
+        most = FIRST_STEPS
+        while True:
+            found = self.onward.reduced(word, most)
+            if found is not None:
+                return found
+            found = self.backward.reduced(word[::-1], most)
+            if found is not None:
+                return found[::-1]
+            most = most * 4
 
 
 def _longest_end(word, numbers):

@@ -59,8 +59,6 @@ class Group:
     def place_of(self, images):
         """The number of an element."""
         self._check_map(images)
-        if not is_permutation(images):
-            raise NotThere()
         many = self.size()
         place = 0
         found = tuple(range(self.points))

@@ -4,7 +4,7 @@ from letterfolds.checks import SIGNS, is_between, is_sequence, is_word
 from letterfolds.errors import Endless, NoMonoid, NoNumber, NoPairs, NoWord, OtherLetters, TooMany, Unfinished
 from letterfolds.graphs import Parts
 from letterfolds.monoids import MOST_SIZE, Monoid
-from letterfolds.near import Reducer, rules_of
+from letterfolds.near import Normals, Reducer, rules_of
 
 MOST_LETTERS = 4
 MOST_PAIRS = 12
@@ -28,18 +28,17 @@ class Presented:
         self.letters = letters
         self.pairs = tuple([tuple(pair) for pair in pairs])
         self._rules = rules_of(letters, self.pairs, REACHES[letters])
-        self._reducer = None
-        if len(self._rules) <= MOST_RULES:
-            reducer = Reducer(letters, self._rules)
-            if _is_complete(reducer, self.pairs):
-                self._reducer = reducer
+        # What reduces words of any length; None if it is not finished.
+        self._normals = None
+        if _is_complete(letters, self._rules, self.pairs):
+            self._normals = Normals(letters, self._rules)
 
     def __eq__(self, other):
         return isinstance(other, Presented) and self.letters == other.letters and self.pairs == other.pairs
 
     def is_finished(self):
         """Whether the rules tell of words of any length which are equal."""
-        return self._reducer is not None
+        return self._normals is not None
 
     def rules(self):
         """The list of the rules (left, right), ascending by left."""
@@ -50,19 +49,19 @@ class Presented:
         """The least word equal to a word."""
         self._check_word(word)
         self._check_finished()
-        return self._reducer.reduced(word)
+        return self._normals.normal_word(word)
 
     def equal(self, one, other):
         """Whether two words are equal."""
         self._check_word(one)
         self._check_word(other)
         self._check_finished()
-        return self._reducer.reduced(one) == self._reducer.reduced(other)
+        return self._normals.normal_word(one) == self._normals.normal_word(other)
 
     def size(self):
         """How many elements there are, or None for infinitely many."""
         self._check_finished()
-        rows = _onward(self._reducer)
+        rows = _onward(self._normals)
         if _chain_of_cycles(rows) != 0:
             return None
         many = 0
@@ -77,7 +76,7 @@ class Presented:
         if not is_between(length, 0, MOST_LENGTH):
             raise NoNumber(length)
         self._check_finished()
-        rows = _onward(self._reducer)
+        rows = _onward(self._normals)
         counts = _first_counts(rows)
         for _ in range(length):
             counts = _next_counts(rows, counts)
@@ -92,7 +91,7 @@ class Presented:
         self._check_finished()
         if length <= MOST_LENGTH:
             return self.amount(length) % modulus
-        rows = _onward(self._reducer)
+        rows = _onward(self._normals)
         if len(rows) > MOST_STATES:
             raise TooMany(MOST_STATES)
         return sum(_counts_modulo(rows, length, modulus)) % modulus
@@ -100,13 +99,13 @@ class Presented:
     def growth(self):
         """("finite",), ("polynomial", d) or ("exponential",)."""
         self._check_finished()
-        degree = _chain_of_cycles(_onward(self._reducer))
+        degree = _chain_of_cycles(_onward(self._normals))
         if degree is None:
             return ("exponential",)
         return ("polynomial", degree) if degree > 0 else ("finite",)
 
     def _check_finished(self):
-        if self._reducer is None:
+        if self._normals is None:
             raise Unfinished()
 
     def _check_word(self, word):
@@ -139,7 +138,7 @@ def monoid_of(presentation):
     while len(right) < len(words):
         row = []
         for sign in SIGNS[:presentation.letters]:
-            word = presentation._reducer.reduced(words[len(right)] + sign)
+            word = presentation._normals.normal_word(words[len(right)] + sign)
             if word not in numbers:
                 numbers[word] = len(words)
                 words.append(word)
@@ -173,15 +172,18 @@ def _in_order(word):
     return (len(word), word)
 
 
-def _is_complete(reducer, pairs):
-    """Whether no left is a part of a right, and what two lefts or a pair tell reduces to the same word."""
-    for left, _ in reducer.pairs:
-        if not all([left not in right for _, right in reducer.pairs]):
+def _is_complete(letters, rules, pairs):
+    """Whether the rules are few, no left is a part of a right, and what lefts or a pair tell reduces to one word."""
+    if len(rules) > MOST_RULES:
+        return False
+    for left, _ in rules:
+        if not all([left not in right for _, right in rules]):
             return False
+    reducer = Reducer(letters, rules)
     if not all([reducer.reduced(one) == reducer.reduced(other) for one, other in pairs]):
         return False
-    for one in reducer.pairs:
-        for other in reducer.pairs:
+    for one in rules:
+        for other in rules:
             if not all([reducer.reduced(word) == reducer.reduced(last) for word, last in _overlaps(one, other)]):
                 return False
     return True
@@ -198,9 +200,9 @@ def _overlaps(rule, following):
     return found
 
 
-def _onward(reducer):
+def _onward(normals):
     """For each state the list of the next states by letters that end no left."""
-    return [[end for end in row if end >= 0] for row in reducer.rows]
+    return [[end for end in row if end >= 0] for row in normals.onward.rows]
 
 
 def _first_counts(rows):

@@ -127,9 +127,9 @@ def steps_to_spot(rows, spot):
     steps = Steps(rows)
     number = steps.times(steps.to_row(spot.row), steps.way_back(cluster, first.image))
     number = steps.times(number, steps.to_member(cluster, permutation))
-    number = steps.times(number, steps.way_forth(cluster, spot.image))
-    # The steps behind it are not needed.
-    return [] if number is None else steps.found[:number + 1]
+    steps.times(number, steps.way_forth(cluster, spot.image))
+    # Each step that was added is a part of what follows, so the last one is the whole.
+    return steps.found
 
 
 def _order_of(permutation):

@@ -123,6 +123,9 @@ FINISHED = {
     "without two together": (2, [("bb", "")], None),
     "without one of two": (2, [("bb", "b"), ("ab", "b")], None),
     "absorbing": (3, [("ab", "a"), ("ac", "a"), ("aa", "a"), ("bb", "b"), ("cc", "c"), ("cb", "bc")], None),
+    # From the left, the first one takes about 2 ** n steps for words of 3 * n letters; the second one from the right.
+    "slow from the left": (3, [("bc", "cb"), ("baa", "abc"), ("aa", "ca")], None),
+    "slow from the right": (2, [("baa", "abb"), ("abb", "bbb")], None),
     "five points": (4, [("aa", ""), ("bb", ""), ("cc", ""), ("dd", ""), ("aba", "bab"), ("bcb", "cbc"),
                         ("cdc", "dcd"), ("ca", "ac"), ("da", "ad"), ("db", "bd")], 120),
 }

@@ -19,6 +19,8 @@ GROWTHS = {
     "without two together": ("exponential",),
     "without one of two": ("polynomial", 1),
     "absorbing": ("finite",),
+    "slow from the left": ("exponential",),
+    "slow from the right": ("polynomial", 2),
 }
 
 

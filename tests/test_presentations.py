@@ -130,6 +130,14 @@ class EqualTests(FoldCase):
         self.assertEqual(Presented(1, [("a" * 60, "a" * 50)]).normal("a" * 300), "a" * 50)
         self.assertEqual(Presented(3, [("ba", "ab"), ("ca", "ac"), ("cb", "bc")]).normal("cba" * 100),
                          "a" * 100 + "b" * 100 + "c" * 100)
+        letters, pairs, _ = FINISHED["slow from the left"]
+        presented = Presented(letters, pairs)
+        self.assertEqual(presented.normal("baa" * 100), "a" * 100 + "b" * 100 + "c" * 100)
+        self.assertTrue(presented.equal("cba" * 100, "baa" * 100))
+        letters, pairs, _ = FINISHED["slow from the right"]
+        presented = Presented(letters, pairs)
+        self.assertEqual(presented.normal("b" * 300), "a" * 298 + "bb")
+        self.assertEqual(presented.normal("baa" * 100), "a" * 298 + "bb")
         for wrong in ("a" * 301, word + "a"):
             self.refuses(NoWord(wrong), presented.normal, wrong)
             self.refuses(NoWord(wrong), presented.equal, wrong, "")

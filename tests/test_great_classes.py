@@ -158,6 +158,27 @@ class FactTests(FoldCase):
                         if sorted(kernel(x)[i] for i in points) == list(range(len(points)))]
                 self.assertEqual(great.is_regular(x), fits != [], (name, x))
 
+    def test_rows_by_letters_in_front(self):
+        for name, great, plain in greats():
+            given = [tuple(range(plain.points))]
+            for r in given:
+                for a in plain.generators:
+                    if not any(great.related("R", times(a, r), other) for other in given):
+                        given.append(times(a, r))
+            self.assertEqual(len(given), great.counts()[0], name)
+            for x in plain.elements:
+                self.assertTrue(any(great.related("R", x, r) for r in given), (name, x))
+
+    def test_idempotents_by_kernels_and_images(self):
+        for name, great, plain in greats():
+            for x in plain.elements:
+                box = [y for y in plain.elements if great.related("D", x, y)]
+                pairs = {(kernel(y), image(z)) for y in box for z in box}
+                fits = [classes for classes, points in pairs
+                        if sorted(classes[i] for i in points) == list(range(len(points)))]
+                ones = [y for y in box if times(y, y) == y]
+                self.assertEqual(len(ones), len(fits) if great.is_regular(x) else 0, (name, x))
+
     def test_least_rank_and_permutations(self):
         for name, great, plain in greats():
             rank, many = great.by_rank()[0]

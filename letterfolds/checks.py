@@ -23,6 +23,16 @@ def is_sequence(thing, least, most):
     return isinstance(thing, (list, tuple)) and least <= len(thing) <= most
 
 
+def wrong_place(thing, many):
+    """The place of the first entry that is no number below so many, -1 for no list or tuple; None if all is right."""
+    if not isinstance(thing, (list, tuple)):
+        return -1
+    for place, entry in enumerate(thing):
+        if not is_between(entry, 0, many - 1):
+            return place
+    return None
+
+
 def is_word(thing, letters, most):
     """Whether it is a word of the first so many letters, of at most so many."""
     if not isinstance(thing, str) or len(thing) > most:

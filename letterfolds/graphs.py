@@ -61,6 +61,20 @@ def _count_within(left, below, above, known):
     return known[left]
 
 
+def reached_from(rows, first):
+    """The numbers that are reached from the first, in the order of the least words to them."""
+    order = [first]
+    known = {first: True}
+    place = 0
+    while place < len(order):
+        for end in rows[order[place]]:
+            if end not in known:
+                known[end] = True
+                order.append(end)
+        place += 1
+    return order
+
+
 def _strong_parts(rows):
     """The ascending lists of the members of the strong parts, each part ahead of all that are below it."""
     begins = [[] for _ in rows]

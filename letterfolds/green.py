@@ -3,9 +3,9 @@
 from math import lcm
 
 from letterfolds.checks import is_between
-from letterfolds.errors import NoKind, NoMonoid, NoNumber, NotRegular, TooMany
+from letterfolds.errors import NoKind, NoNumber, NotRegular, TooMany
 from letterfolds.graphs import Parts, count_lower_sets, has_bit
-from letterfolds.monoids import Monoid, least_ways, products_from, products_onto
+from letterfolds.monoids import check_monoid, least_ways, products_from, products_onto
 
 KINDS = ("R", "L", "H", "D")
 # The kinds for which elements are below others.
@@ -62,8 +62,7 @@ class Green:
     """The classes of a monoid of the kinds R, L, H and D."""
 
     def __init__(self, monoid):
-        if not isinstance(monoid, Monoid):
-            raise NoMonoid("form", -1)
+        check_monoid(monoid)
         self.monoid = monoid
         left = monoid.left()
         both = [row + left[number] for number, row in enumerate(monoid.right)]

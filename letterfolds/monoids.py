@@ -1,7 +1,8 @@
 """Finite monoids told by right tables: words, products, ways, growth and rules."""
 
 from letterfolds.checks import LETTERS, MOST_COUNT, SIGNS, is_between, is_sequence, is_word
-from letterfolds.errors import NoMonoid, NoNumber, NoWord
+from letterfolds.errors import NoMonoid, NoNumber, NoWord, TooMany
+from letterfolds.graphs import reached_from
 
 MOST_SIZE = 2000
 MOST_WORD = 100
@@ -81,7 +82,7 @@ class Monoid:
 
     def turned(self):
         """The tuple with the number in the opposite for each number here."""
-        places = {number: place for place, number in enumerate(_reached(self._left, 0))}
+        places = {number: place for place, number in enumerate(reached_from(self._left, 0))}
         return tuple([places[number] for number in range(self.size())])
 
     def growth(self):
@@ -166,9 +167,15 @@ def numbered(right, first):
     _check_form(right)
     if not is_between(first, 0, len(right) - 1):
         raise NoNumber(first)
-    order = _reached(right, first)
+    order = reached_from(right, first)
     places = {number: place for place, number in enumerate(order)}
     return Monoid([[places[entry] for entry in right[number]] for number in order])
+
+
+def check_monoid(thing):
+    """Refuses what is no Monoid."""
+    if not isinstance(thing, Monoid):
+        raise NoMonoid("form", -1)
 
 
 def _check_form(right):
@@ -211,20 +218,6 @@ def _check_products(right, left):
                 raise NoMonoid("product", number)
 
 
-def _reached(table, first):
-    """The numbers that are reached from the first, in the order of the least words to them."""
-    order = [first]
-    known = {first: True}
-    place = 0
-    while place < len(order):
-        for reached in table[order[place]]:
-            if reached not in known:
-                known[reached] = True
-                order.append(reached)
-        place += 1
-    return order
-
-
 def _letters_of(made, number):
     """The list of the numbers of the letters of an element's word."""
     letters = []
@@ -264,6 +257,37 @@ def least_ways(table, one, is_front, last=None):
                 words[reached] = sign + words[number] if is_front else words[number] + sign
                 level.append(reached)
     return words
+
+
+def found_from(first, moves, most=None):
+    """The pair of the list of all that is found from the first, and of the rows of the numbers to which moves lead.
+
+    `moves` tells the list of what one of them leads to, by each letter. So what is found comes in the order of the
+    least words that lead to it. Where a greatest number is told, there may not be more.
+    """
+    found = [first]
+    numbers = {first: 0}
+    rows = []
+    while len(rows) < len(found):
+        ends = moves(found[len(rows)])
+        for end in ends:
+            if end not in numbers:
+                if len(found) == most:
+                    raise TooMany(most)
+                numbers[end] = len(found)
+                found.append(end)
+        rows.append([numbers[end] for end in ends])
+    return (found, rows)
+
+
+def all_products(monoid):
+    """For each element the list of the products of each element, first, with it."""
+    steps = [[row[letter] for row in monoid.right] for letter in range(len(monoid.right[0]))]
+    columns = [list(range(monoid.size()))]
+    for before, letter in monoid._made[1:]:
+        step = steps[letter]
+        columns.append([step[x] for x in columns[before]])
+    return columns
 
 
 def products_from(monoid, number):

@@ -1,9 +1,9 @@
 """Monoids that are presented by letters and pairs of equal words, finite or not."""
 
 from letterfolds.checks import SIGNS, is_between, is_sequence, is_word
-from letterfolds.errors import Endless, NoMonoid, NoNumber, NoPairs, NoWord, OtherLetters, TooMany, Unfinished
+from letterfolds.errors import Endless, NoNumber, NoPairs, NoWord, OtherLetters, TooMany, Unfinished
 from letterfolds.graphs import Parts
-from letterfolds.monoids import MOST_SIZE, Monoid
+from letterfolds.monoids import MOST_SIZE, Monoid, check_monoid, found_from
 from letterfolds.near import Normals, Reducer, rules_of
 
 MOST_LETTERS = 4
@@ -132,25 +132,14 @@ def monoid_of(presentation):
         raise Endless()
     if many > MOST_SIZE:
         raise TooMany(MOST_SIZE)
-    words = [""]
-    numbers = {"": 0}
-    right = []
-    while len(right) < len(words):
-        row = []
-        for sign in SIGNS[:presentation.letters]:
-            word = presentation._normals.normal_word(words[len(right)] + sign)
-            if word not in numbers:
-                numbers[word] = len(words)
-                words.append(word)
-            row.append(numbers[word])
-        right.append(row)
-    return Monoid(right)
+    normals = presentation._normals
+    signs = SIGNS[:presentation.letters]
+    return Monoid(found_from("", lambda word: [normals.normal_word(word + sign) for sign in signs])[1])
 
 
 def presents(monoid, pairs):
     """Whether pairs hold in a Monoid, and the presentation by them is finished and has as many elements."""
-    if not isinstance(monoid, Monoid):
-        raise NoMonoid("form", -1)
+    check_monoid(monoid)
     letters = len(monoid.right[0])
     if letters > MOST_LETTERS:
         raise OtherLetters()

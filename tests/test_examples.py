@@ -1,13 +1,15 @@
-"""The examples of the document, up to those of presentations."""
+"""The examples of the document."""
 
 import unittest
 
+from letterfolds.congruences import congruences
 from letterfolds.errors import NoMonoid
 from letterfolds.folds import Grid, Map, Part, Toll, cycle_of
 from letterfolds.great import Great
 from letterfolds.green import Green
 from letterfolds.listing import Listed
 from letterfolds.monoids import Monoid
+from letterfolds.parts import division
 from letterfolds.presentations import Presented
 from helpers import FoldCase
 
@@ -50,6 +52,13 @@ class ExampleTests(FoldCase):
         self.assertEqual((presented.rules(), presented.amount(5), presented.growth(),
                           Presented(2, [("aa", ""), ("bbb", ""), ("abab", "")]).size()),
                          ([("ab", "")], 6, ("polynomial", 2), 6))
+
+    def test_congruences_of_a_cycle(self):
+        self.assertEqual(congruences(Monoid([[1], [2], [3], [0]])), [(0, 1, 2, 3), (0, 1, 0, 1), (0, 0, 0, 0)])
+
+    def test_division(self):
+        monoid = Listed([Map([1, 0]), Map([0, 0])]).monoid
+        self.assertEqual(division(Monoid([[1], [0]]), monoid), (1,))
 
 
 if __name__ == "__main__":

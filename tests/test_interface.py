@@ -7,6 +7,7 @@ from letterfolds.folds import (Grid, Map, Part, Relation, Toll, cycle_of, elemen
                                read_element)
 from letterfolds.great import Great, value_of
 from letterfolds.green import CellGroup, Eggbox, Green, Rees
+from letterfolds.languages import Automaton, Language
 from letterfolds.listing import Listed, number_of
 from letterfolds.monoids import Monoid, numbered
 from letterfolds.perms import Group
@@ -22,6 +23,12 @@ PLACES = {
     "letterfolds.great": ["Great", "value_of"],
     "letterfolds.perms": ["Group"],
     "letterfolds.presentations": ["Presented", "parting", "monoid_of", "presents"],
+    "letterfolds.congruences": ["is_congruence", "congruence", "greatest", "ideal", "ideal_congruence", "join", "meet",
+                                "congruences", "covers", "is_simple", "quotient"],
+    "letterfolds.morphisms": ["morphism", "kernel", "morphisms", "isomorphism"],
+    "letterfolds.parts": ["submonoid", "generated", "division", "direct"],
+    "letterfolds.languages": ["Automaton", "Language", "accepts", "least_automaton", "unlike_word", "joined",
+                              "backwards", "transition", "syntactic"],
 }
 
 METHODS = {
@@ -152,7 +159,9 @@ class InterfaceTests(unittest.TestCase):
                               ["one", "order", "exponent", "is_commutative", "is_cyclic"]),
                              (Rees(0, [], [], [], []), ["one", "members", "lefts", "rights", "matrix"]),
                              (Great(1, []), ["points", "generators"]), (Group(1, []), ["points"]),
-                             (Presented(1, []), ["letters", "pairs"])):
+                             (Presented(1, []), ["letters", "pairs"]),
+                             (Automaton([[0]], 0, []), ["rows", "start", "accepted"]),
+                             (Language(Monoid([[0]]), []), ["monoid", "accepted"])):
             for name in names:
                 self.assertTrue(hasattr(thing, name))
 

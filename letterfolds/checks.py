@@ -33,9 +33,9 @@ def wrong_place(thing, many):
     return None
 
 
-def is_word(thing, letters, most):
-    """Whether it is a word of the first so many letters, of at most so many."""
-    if not isinstance(thing, str) or len(thing) > most:
+def is_word(thing, letters, most=None):
+    """Whether it is a word of the first so many letters, of at most so many where a number is told."""
+    if not isinstance(thing, str) or (most is not None and len(thing) > most):
         return False
     known = LETTERS[:letters]
     return all([letter in known for letter in thing])

@@ -122,6 +122,12 @@ def syntactic(thing):
     return Language(Monoid(right), [number for number, ends in enumerate(found) if marks[ends[0]]])
 
 
+def check_thing(thing):
+    """Refuses what is neither an Automaton nor a Language."""
+    if not isinstance(thing, Automaton) and not isinstance(thing, Language):
+        raise NoLanguage()
+
+
 def _are_rows(rows):
     if not is_sequence(rows, 1, MOST_STATES):
         return False
@@ -136,12 +142,11 @@ def _are_rows(rows):
 
 def _states_of(thing):
     """The triple of the rows of a thing, its start, and the list of whether each state is accepted."""
+    check_thing(thing)
     if isinstance(thing, Automaton):
         rows, start = thing.rows, thing.start
-    elif isinstance(thing, Language):
-        rows, start = thing.monoid.right, 0
     else:
-        raise NoLanguage()
+        rows, start = thing.monoid.right, 0
     marks = [False] * len(rows)
     for state in thing.accepted:
         marks[state] = True

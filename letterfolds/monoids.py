@@ -280,6 +280,21 @@ def found_from(first, moves, most=None):
     return (found, rows)
 
 
+def words_up_to(letters, length):
+    """The list of all words of at most length letters, in their order."""
+    words = [""]
+    level = [""]
+    for _ in range(length):
+        level = [word + sign for word in level for sign in SIGNS[:letters]]
+        words.extend(level)
+    return words
+
+
+def word_to(rows, number):
+    """The least word that leads to a number from 0, in rows that meet the numbers in their order."""
+    return "".join([SIGNS[letter] for letter in _letters_of(_made_by(rows), number)])
+
+
 def all_products(monoid):
     """For each element the list of the products of each element, first, with it."""
     steps = [[row[letter] for row in monoid.right] for letter in range(len(monoid.right[0]))]

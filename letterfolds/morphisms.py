@@ -57,19 +57,19 @@ def tuples_of(many, length):
     return rows
 
 
-def check_work(many, length, steps):
-    """Refuses too much work: so many steps for each tuple of so many numbers below many."""
+def check_work(many, length, steps, most):
+    """Refuses more work than told: so many steps for each tuple of so many numbers below many."""
     work = steps
     for _ in range(length):
         work = work * many
-    if work > MOST_WORK:
-        raise TooMany(MOST_WORK)
+    if work > most:
+        raise TooMany(most)
 
 
 def _all_with_images(one, other):
     """The ascending list of the pairs of images of letters and images of all elements that have a morphism."""
     letters = len(one.right[0])
-    check_work(other.size(), letters, one.size() * letters)
+    check_work(other.size(), letters, one.size() * letters, MOST_WORK)
     columns = all_products(other)
     pairs = []
     for images in tuples_of(other.size(), letters):

@@ -1,13 +1,14 @@
 """Short words that steps lead to one another, and the rules that these tell."""
 
 from letterfolds.checks import SIGNS
+from letterfolds.monoids import words_up_to
 
 FIRST_STEPS = 10000
 
 
 def rules_of(letters, pairs, reach):
     """The list of the rules (left, right), lefts in their order, that words of at most reach letters tell."""
-    words = _all_words(letters, reach)
+    words = words_up_to(letters, reach)
     leasts = _least_near(words, pairs)
     # The words without a high part.
     plain = {"": True}
@@ -19,16 +20,6 @@ def rules_of(letters, pairs, reach):
             else:
                 rules.append((word, leasts[word]))
     return rules
-
-
-def _all_words(letters, reach):
-    """The list of all words of at most reach letters, in their order."""
-    words = [""]
-    level = [""]
-    for _ in range(reach):
-        level = [word + sign for word in level for sign in SIGNS[:letters]]
-        words.extend(level)
-    return words
 
 
 def _least_near(words, pairs):

@@ -3,7 +3,7 @@
 from letterfolds.checks import LETTERS, is_sequence, wrong_place
 from letterfolds.errors import NoNumbers, TooMany
 from letterfolds.monoids import MOST_SIZE, Monoid, all_products, check_monoid, found_from, products_onto
-from letterfolds.morphisms import check_work, tuples_of
+from letterfolds.morphisms import MOST_WORK, check_work, tuples_of
 
 
 def submonoid(monoid, numbers):
@@ -35,7 +35,7 @@ def division(one, other):
     check_monoid(one)
     check_monoid(other)
     letters = len(one.right[0])
-    check_work(other.size(), letters, one.size() * other.size())
+    check_work(other.size(), letters, one.size() * other.size(), MOST_WORK)
     columns = all_products(other)
     for images in tuples_of(other.size(), letters):
         if _leads_to(one, [columns[image] for image in images]):

@@ -1,5 +1,6 @@
 """What several tests share: refusals, plain products, and monoids to ask."""
 
+import copy
 import os
 import subprocess
 import sys
@@ -28,6 +29,34 @@ BIG = 10 ** 30
 
 # What is no number where one is asked, whatever its limits.
 NO_NUMBERS = (True, False, None, "0", "", [0], (1,), {}, b"0")
+
+
+def changed(thing):
+    """Puts something else into a list, wherever there is one."""
+    if type(thing) is list:
+        for entry in thing:
+            changed(entry)
+        thing.append("more")
+
+
+def tupled(thing):
+    """A thing with tuples for all lists."""
+    return tuple(tupled(entry) for entry in thing) if type(thing) in (list, tuple) else thing
+
+
+class CallCase:
+    """Tests of calls with lists as arguments, which a class tells by calls(): pairs of a call and its arguments."""
+
+    def test_arguments_are_not_changed(self):
+        for call, args in self.calls():
+            before = copy.deepcopy(args)
+            call(*args)
+            self.assertEqual(args, before)
+
+    def test_lists_and_tuples_are_equal_arguments(self):
+        for call, args in self.calls():
+            self.assertEqual(call(*args), call(*tupled(args)))
+            self.assertEqual(call(*args), call(*args))
 
 
 class FoldCase(unittest.TestCase):

@@ -10,7 +10,7 @@ from letterfolds.monoids import Monoid
 from letterfolds.perms import Group
 from letterfolds.presentations import Presented, monoid_of, parting, presents
 from great_cases import CASES
-from helpers import FoldCase
+from helpers import CallCase, FoldCase, changed
 from plain_green import MONOIDS
 
 N = None
@@ -50,15 +50,7 @@ print(one.rules(), one.normal("ab" * 100), monoid_of(one).right, parting(one, Pr
 """
 
 
-def changed(thing):
-    """Puts something else into a list, wherever there is one."""
-    if type(thing) is list:
-        for entry in thing:
-            changed(entry)
-        thing.append("more")
-
-
-class ArgumentTests(FoldCase):
+class ArgumentTests(CallCase, FoldCase):
     def calls(self):
         maps = [[1, 2, 0], [0, N, 2]]
         great, group = Great(3, maps), Group(3, [[1, 2, 0]])
@@ -73,20 +65,6 @@ class ArgumentTests(FoldCase):
             (Presented, [2, [["ab", ""], ["bb", "b"]]]), (presents, [Monoid([[1], [0]]), [["aa", ""]]]),
             (Eggbox, box), (Rees, [1, [1, 2], [3], [4, 5], [[1], [N]]]),
         ]
-
-    def test_arguments_are_not_changed(self):
-        for call, args in self.calls():
-            before = copy.deepcopy(args)
-            call(*args)
-            self.assertEqual(args, before)
-
-    def test_lists_and_tuples_are_equal_arguments(self):
-        def tupled(thing):
-            return tuple(tupled(entry) for entry in thing) if type(thing) in (list, tuple) else thing
-
-        for call, args in self.calls():
-            self.assertEqual(call(*args), call(*tupled(args)))
-            self.assertEqual(call(*args), call(*args))
 
     def test_lists_that_are_changed_later(self):
         for call, args in self.calls():

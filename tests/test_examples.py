@@ -3,14 +3,20 @@
 import unittest
 
 from letterfolds.congruences import congruences
-from letterfolds.errors import NoMonoid
+from letterfolds.errors import NoMonoid, NoTerm
 from letterfolds.folds import Grid, Map, Part, Toll, cycle_of
 from letterfolds.great import Great
 from letterfolds.green import Green
+from letterfolds.identities import kinds, read_identity, refuted
+from letterfolds.languages import Automaton
 from letterfolds.listing import Listed
 from letterfolds.monoids import Monoid
 from letterfolds.parts import division
 from letterfolds.presentations import Presented
+from letterfolds.starfree import counting, matches, star_free
+from letterfolds.subwords import separating
+from letterfolds.subwords import test_length as least_tests
+from letterfolds.texts import monoid_text
 from helpers import FoldCase
 
 
@@ -59,6 +65,28 @@ class ExampleTests(FoldCase):
     def test_division(self):
         monoid = Listed([Map([1, 0]), Map([0, 0])]).monoid
         self.assertEqual(division(Monoid([[1], [0]]), monoid), (1,))
+
+    def test_even_words(self):
+        thing = Automaton([[1], [0]], 0, [0])
+        self.assertEqual((counting(thing), kinds(thing)), (("a", 2), ("group", "commutative", "commuting")))
+
+    def test_tested_by_subwords(self):
+        thing = Automaton([[1, 0], [1, 2], [2, 2]], 0, [2])
+        self.assertEqual((least_tests(thing), separating(thing, 1)), (2, ("ab", "ba")))
+
+    def test_refuted(self):
+        self.assertEqual(refuted(Automaton([[1, 0], [1, 0]], 0, [1]), "right"), (0, ("a", "b")))
+
+    def test_star_free(self):
+        expression = star_free(Automaton([[1, 0], [1, 2], [2, 2]], 0, [2]))
+        self.assertEqual([matches(expression, word) for word in ("", "ab", "bba", "bbab")], [False, True, False, True])
+
+    def test_no_identity(self):
+        self.refuses(NoTerm(2), read_identity, "x=)")
+
+    def test_text_of_a_flip_and_a_constant(self):
+        monoid = Listed([Map([1, 0]), Map([0, 0])]).monoid
+        self.assertEqual(monoid_text(monoid), "1 2; 0 2; 3 2; 2 2")
 
 
 if __name__ == "__main__":

@@ -11,7 +11,7 @@ from letterfolds.languages import (Automaton, Language, accepts, backwards, join
 from letterfolds.monoids import Monoid
 from letterfolds.morphisms import isomorphism, kernel, morphism, morphisms
 from letterfolds.parts import direct, division, generated, submonoid
-from helpers import FoldCase
+from helpers import CallCase, FoldCase, changed
 from plain_green import MONOIDS, cyclic
 from plain_languages import AUTOMATA
 
@@ -45,19 +45,7 @@ print(unlike_word(thing, backwards(thing)), syntactic(thing).monoid.right, synta
 """
 
 
-def changed(thing):
-    """Puts something else into a list, wherever there is one."""
-    if type(thing) is list:
-        for entry in thing:
-            changed(entry)
-        thing.append("more")
-
-
-def tupled(thing):
-    return tuple(tupled(entry) for entry in thing) if type(thing) in (list, tuple) else thing
-
-
-class ArgumentTests(FoldCase):
+class ArgumentTests(CallCase, FoldCase):
     def calls(self):
         monoid = MONOIDS["flip and constant"]
         return [
@@ -68,17 +56,6 @@ class ArgumentTests(FoldCase):
             (submonoid, [monoid, [3, 1]]), (generated, [monoid, [3, 1]]),
             (Automaton, [[[1, 0], [0, 1]], 0, [1, 0, 1]]), (Language, [monoid, [3, 0, 3]]),
         ]
-
-    def test_arguments_are_not_changed(self):
-        for call, args in self.calls():
-            before = copy.deepcopy(args)
-            call(*args)
-            self.assertEqual(args, before)
-
-    def test_lists_and_tuples_are_equal_arguments(self):
-        for call, args in self.calls():
-            self.assertEqual(call(*args), call(*tupled(args)))
-            self.assertEqual(call(*args), call(*args))
 
     def test_lists_that_are_changed_later(self):
         for call, args in self.calls():

@@ -100,11 +100,11 @@ def backwards(thing):
     rows, start, marks = _states_of(thing)
     rows, marks = fewest_states(rows, start, marks)
     letters = list(range(len(rows[0])))
-    # For each word, whether what is read from each state, the word turned round, is accepted. As each state is
-    # reached, other words lead unlike ones of these to unlike marks: so there are no states too many.
+    # What is found by a word tells for each state whether the word, turned round, is accepted from there. As each
+    # state is reached, some word leads from unlike ones of these to unlike first entries: so none is one too many.
     found, following = found_from(
         tuple(marks), lambda ends: [tuple([ends[row[letter]] for row in rows]) for letter in letters], MOST_FOUND)
-    return _automaton(following, 0, [ends[0] for ends in found])
+    return _automaton(following, 0, [told[0] for told in found])
 
 
 def transition(automaton):

@@ -85,21 +85,21 @@ class Tests:
         # For each signature the first word in the language, and the first one that is not.
         self._yes = {}
         self._no = {}
-        for number, (mask, state) in enumerate(pairs):
+        for number, (told, state) in enumerate(pairs):
             firsts = self._yes if state in least.accepted else self._no
-            firsts.setdefault(mask, number)
+            firsts.setdefault(told, number)
 
     def separated(self):
         """The least pair of words with one signature, the first one in the language, the second one not, or None."""
-        for mask, number in self._yes.items():
-            if mask in self._no:
-                return (word_to(self._onward, number), word_to(self._onward, self._no[mask]))
+        for told, number in self._yes.items():
+            if told in self._no:
+                return (word_to(self._onward, number), word_to(self._onward, self._no[told]))
         return None
 
     def had(self):
         """The list of the signatures of words in the language, in the order of their first words."""
-        return [tuple([word for place, word in enumerate(self._subwords) if has_bit(self._masks[mask], place)])
-                for mask in self._yes]
+        return [tuple([word for place, word in enumerate(self._subwords) if has_bit(self._masks[told], place)])
+                for told in self._yes]
 
 
 def _check_length(least, length):
